@@ -1,0 +1,1 @@
+"""Fromsize: all rules of tables of d rows come of one."""

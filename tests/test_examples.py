@@ -4,6 +4,7 @@ import importlib
 import os
 import unittest
 
+from fromsize import errors
 from fromsize.check_written import shows_written
 from fromsize.classes import class_sum, difference
 from fromsize.crossings import crossing
@@ -12,6 +13,7 @@ from fromsize.sums import Sum
 from fromsize.wirings import led
 from fromsize.written import Written, written
 from tests.own import own_falls, own_rounds, rows_of
+from tests.test_interface import names_of
 
 HERE = os.path.dirname(os.path.abspath(__file__))
 
@@ -32,20 +34,19 @@ def read_examples():
 
 class ExamplesTest(unittest.TestCase):
     def setUp(self):
-        self.names = {}
-        self.take("errors")
+        self.names = {name: value for name, value in vars(errors).items() if isinstance(value, type)}
 
     def take(self, module):
-        """The names that the module itself defines."""
+        """The names that the interface lists for the module."""
         held = importlib.import_module("fromsize." + module)
-        self.names.update({name: value for name, value in vars(held).items()
-                           if getattr(value, "__module__", None) == held.__name__})
+        self.names.update({name: getattr(held, name) for name in names_of(module)})
 
     def test_examples(self):
         told = read_examples()
-        self.assertEqual(len([1 for _, _, printed in told if printed is not None]), 43)
-        for module, asked, printed in told:
-            self.take(module)
+        self.assertEqual(len([1 for _, _, printed in told if printed is not None]), 87)
+        for at, (module, asked, printed) in enumerate(told):
+            if at == 0 or module != told[at - 1][0]:
+                self.take(module)
             if printed is None:
                 exec(asked, self.names)
             elif printed.startswith("raises "):

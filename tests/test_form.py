@@ -173,6 +173,53 @@ class RowsTest(unittest.TestCase):
                     asks = isinstance(node.left, ast.Call) and ast.unparse(node.left.func) == "type"
                     self.assertTrue(asks or isinstance(right, ast.Constant), (name, node.lineno))
 
+    def test_what_texts_return(self):
+        """Each return of a text is the join of a literal, and nothing stands behind the last one."""
+        for name, node in self.nodes(ast.FunctionDef):
+            if node.name == "__str__":
+                self.assertIsInstance(node.body[-1], ast.Return, name)
+                for row in ast.walk(node):
+                    if isinstance(row, ast.Return):
+                        self.assertTrue(ast.unparse(row.value).startswith("' '.join("), name)
+            if node.name == "__init__":
+                self.assertFalse([row for row in ast.walk(node) if isinstance(row, ast.Return)], name)
+
+    def test_counts_go_up_by_literals(self):
+        """Beside operators += takes literal integers alone."""
+        for name, node in self.nodes(ast.AugAssign):
+            self.assertIsInstance(node.op, ast.Add, (name, node.lineno))
+            self.assertIsInstance(node.target, ast.Name, (name, node.lineno))
+            self.assertIsInstance(node.value, ast.Constant, (name, node.lineno))
+            self.assertIs(type(node.value.value), int, (name, node.lineno))
+
+    def test_sets_stand_in_sorted_alone(self):
+        for name, node in self.nodes(ast.Call):
+            inside = [part for part in node.args if isinstance(part, ast.Call) and ast.unparse(part.func) == "set"]
+            self.assertTrue(not inside or ast.unparse(node.func) == "sorted", (name, node.lineno))
+        told = [node for _, node in self.nodes(ast.Call) if ast.unparse(node.func) == "set"]
+        self.assertEqual(len(told), len([1 for _, node in self.nodes(ast.Call) if ast.unparse(node).startswith("sorted(set(")]))
+
+    def test_methods_and_attributes_have_names_of_their_own(self):
+        methods, static, attributes = set(), set(), set()
+        for _, node in self.nodes(ast.ClassDef):
+            for row in node.body:
+                if isinstance(row, ast.FunctionDef):
+                    (static if row.decorator_list else methods).add(row.name)
+        for _, node in self.nodes(ast.Attribute):
+            if isinstance(node.ctx, ast.Store):
+                attributes.add(node.attr)
+        self.assertFalse((methods & attributes) | (static & attributes) | (methods & static))
+        builtin = set(dir(str)) | set(dir(list)) | set(dir(dict)) | set(dir(int)) | set(dir(bytes)) | set(dir(set))
+        self.assertFalse((methods | static | attributes) & {word for word in builtin if not word.startswith("__")})
+
+    def test_library_names_are_only_called(self):
+        for name, tree in TREES.items():
+            taken = {one.name for node in tree.body if isinstance(node, ast.ImportFrom) and node.module in LIBRARY for one in node.names}
+            read = [node for node in ast.walk(tree) if isinstance(node, ast.Name) and node.id in taken]
+            called = [node for node in ast.walk(tree) if isinstance(node, ast.Call) and isinstance(node.func, ast.Name)
+                      and node.func.id in taken and not node.keywords]
+            self.assertEqual(len(read), len(called), name)
+
     def test_equality_asks_for_its_class_first(self):
         for name, node in self.nodes(ast.FunctionDef):
             if node.name == "__eq__":

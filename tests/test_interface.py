@@ -18,17 +18,51 @@ FUNCTIONS = {
     "check_written": {"shows_written": ["total", "size", "value"], "shows_judged": ["total", "size", "value"]},
     "kept": {"kept": ["wires", "size"], "kept_many": ["wires", "size"], "left_over": ["wires", "size"]},
     "classes": {"class_sum": ["wires", "lengths"], "classes_many": ["wires", "size"], "commutes": ["total", "size"]},
+    "check_classes": {"shows_commutes": ["total", "size", "value"]},
+    "ties": {"is_ties": ["value"], "ties_of": ["row"], "wiring_of": ["ties"], "ties_behind": ["one", "other"],
+             "ties_back": ["ties"]},
+    "rises": {"tie_colours": ["ties"], "longest_rise": ["ties"], "ties_kept": ["ties", "size"],
+              "kept_ties": ["ends", "size"]},
+    "tie_written": {"tie_crossing": ["ties", "ends"], "ties_written": ["total", "size"], "judged_ties": ["total", "size"]},
+    "tie_sizes": {"sizes_nothing": ["total"]},
+    "check_ties": {"shows_judged_ties": ["total", "size", "value"]},
+    "words": {"is_word": ["value"], "turned_word": ["word"], "round_of": ["word"]},
+    "values": {"value_of": ["formula", "tables", "size"]},
+    "led": {"lots": ["formula"], "copies": ["lot"], "letters_of": ["lot"], "sum_of": ["lot"],
+            "formula_of": ["total", "letters", "is_table"]},
+    "tied": {"tie_sum_of": ["lot"]},
 }
 CLASSES = {
     "papers": {"Paper": ["word", "parts"], "Denial": ["word", "parts"]},
     "sums": {"Sum": ["wires", "terms"]},
     "written": {"Written": ["writing", "steps"], "Nothing": ["steps"], "Something": ["tops", "bottoms"]},
     "classes": {"Commutes": ["steps"], "Clash": ["top", "tops", "bottoms"]},
+    "tie_sums": {"TieSum": ["ends", "terms"]},
+    "tie_written": {"NothingTied": ["steps"], "SomethingTied": ["setting"]},
+    "formulas": {"Formula": ["is_table", "terms"]},
 }
-METHODS = {"__init__": ["wires", "terms"], "__eq__": ["other"], "__len__": [], "__str__": [], "__add__": ["other"],
-           "__sub__": ["other"], "__mul__": ["other"], "times": ["number"], "back": [], "beside": ["other"],
-           "weight": ["row"], "led": ["tops", "bottoms"], "closed": []}
-STATIC = {"of": ["row"], "read": ["text"]}
+PAPERS = {"Written": False, "Nothing": False, "Something": True, "Commutes": False, "Clash": True, "NothingTied": False,
+          "SomethingTied": True}
+# Methods of a class, and its static ones.
+METHODS = {
+    ("sums", "Sum"): ({"__init__": ["wires", "terms"], "__eq__": ["other"], "__len__": [], "__str__": [],
+                       "__add__": ["other"], "__sub__": ["other"], "__mul__": ["other"], "times": ["number"], "back": [],
+                       "beside": ["other"], "weight": ["row"], "led": ["tops", "bottoms"], "closed": []},
+                      {"of": ["row"], "read": ["text"]}),
+    ("tie_sums", "TieSum"): ({"__init__": ["ends", "terms"], "__eq__": ["other"], "__len__": [], "__str__": [],
+                              "__add__": ["other"], "__sub__": ["other"], "__mul__": ["other"], "times": ["weight"],
+                              "back": [], "at": ["size"], "closed": [], "weight": ["ties"], "taken": ["setting"]},
+                             {"of": ["ties"], "wired": ["total"], "read": ["text"]}),
+    ("formulas", "Formula"): ({"__init__": ["is_table", "terms"], "__eq__": ["other"], "__str__": [],
+                               "__add__": ["other"], "__sub__": ["other"], "__mul__": ["other"], "times": ["number"],
+                               "turned": [], "trace": [], "with_word": ["letter", "word"]},
+                              {"of": ["word"], "read": ["text"]}),
+}
+
+
+def names_of(module):
+    """The names that the interface lists for a module."""
+    return list(FUNCTIONS.get(module, {})) + list(CLASSES.get(module, {}))
 
 
 def module_of(name):
@@ -53,14 +87,36 @@ class InterfaceTest(unittest.TestCase):
                 self.assertIn("__init__", vars(held))
                 self.assertEqual(list(inspect.signature(held).parameters), parameters, name)
 
-    def test_methods_of_sums(self):
-        held = vars(module_of("sums").Sum)
-        for name, parameters in METHODS.items():
-            self.assertTrue(inspect.isfunction(held[name]), name)
-            self.assertEqual(list(inspect.signature(held[name]).parameters)[1:], parameters)
-        for name, parameters in STATIC.items():
-            self.assertIsInstance(held[name], (staticmethod, classmethod))
-            self.assertEqual(list(inspect.signature(held[name].__func__).parameters), parameters)
+    def test_methods(self):
+        for (module, name), (plain, static) in METHODS.items():
+            held = vars(getattr(module_of(module), name))
+            for method, parameters in plain.items():
+                self.assertTrue(inspect.isfunction(held[method]), method)
+                self.assertEqual(list(inspect.signature(held[method]).parameters)[1:], parameters)
+            for method, parameters in static.items():
+                self.assertIsInstance(held[method], (staticmethod, classmethod))
+                self.assertEqual(list(inspect.signature(held[method].__func__).parameters), parameters)
+
+    def test_papers(self):
+        papers = module_of("papers")
+        for module, told in CLASSES.items():
+            for name, parameters in told.items():
+                if name in PAPERS:
+                    held = getattr(module_of(module), name)
+                    self.assertTrue(issubclass(held, papers.Paper))
+                    self.assertIs(issubclass(held, papers.Denial), PAPERS[name])
+                    self.ask_paper(held, parameters, not PAPERS[name])
+
+    def ask_paper(self, held, parameters, truth):
+        """Made of any values, by place and by name; lists are kept as tuples."""
+        values = [[1, [None, ("a", [])]], object(), {3: [4]}][:len(parameters)]
+        kept = [(1, (None, ("a", ()))), values[1] if len(values) > 1 else None, {3: [4]}][:len(parameters)]
+        for paper in (held(*values), held(**dict(zip(parameters, values)))):
+            self.assertEqual((paper.word, paper.parts), (held.__name__.lower(), tuple(kept)))
+            self.assertEqual([getattr(paper, name) for name in parameters], kept)
+            self.assertIs(bool(paper), truth)
+            self.assertTrue(paper == held(*kept))
+            self.assertFalse(paper == held(*[0] * len(parameters)))
 
     def test_papers_compare(self):
         papers = module_of("papers")

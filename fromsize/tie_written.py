@@ -1,0 +1,99 @@
+"""Crossings of ties, and writings of sums of ties by those that are kept at a size."""
+
+from fromsize.checks import is_numbers, need_size
+from fromsize.errors import BadEnds, Misfit
+from fromsize.papers import Denial, Paper
+from fromsize.rises import are_kept_at, end_colours, rise_of
+from fromsize.tie_sums import TieSum, need_tie_sum
+from fromsize.ties import all_ties, need_ties
+from fromsize.wirings import all_wirings, sign_of
+
+
+class NothingTied(Paper):
+    """A sum of ties is nothing at a size: it is what these steps stand for."""
+
+    def __init__(self, steps):
+        Paper.__init__(self, "nothingtied", steps)
+        self.steps = self.parts[0]
+
+
+class SomethingTied(Denial):
+    """A sum of ties is something at a size: it takes this setting with a number other than 0."""
+
+    def __init__(self, setting):
+        Denial.__init__(self, "somethingtied", setting)
+        self.setting = self.parts[0]
+
+
+def tie_crossing(ties, ends):
+    """The crossing of the ties at these ends."""
+    row = need_ties(ties, "ties")
+    if not can_cross(ends, row):
+        raise BadEnds("ends")
+    return TieSum(len(row), [((sign,), told) for sign, told in ties_dealt(row, ends)])
+
+
+def ties_written(total, size):
+    """The writing of the sum of ties at this size."""
+    need_plain_ties(total, size)
+    return ties_taken_out(total, size)[0]
+
+
+def judged_ties(total, size):
+    """Whether the sum of ties is nothing or something at this size, and what shows it."""
+    need_plain_ties(total, size)
+    writing, steps = ties_taken_out(total, size)
+    if len(writing) == 0:
+        return NothingTied(steps)
+    # No other kept ties of the writing take the colours of the earliest ones.
+    return SomethingTied(end_colours(writing.terms[0][1]))
+
+
+def need_plain_ties(total, size):
+    """Refuse what is no sum of ties, what is no size, and weights that hang on the size."""
+    need_tie_sum(total, "total")
+    need_size(size)
+    if max([len(weight) for weight, _ in total.terms], default=0) > 1:
+        raise Misfit("weights")
+
+
+def can_cross(value, row):
+    """Whether a value is a list of one or more ends, ascending, each once, no two of them partners."""
+    if not is_numbers(value) or not 1 <= len(value) <= len(row):
+        return False
+    if not all([one < other for one, other in zip(value, value[1:])]):
+        return False
+    if value[0] < 0 or value[-1] >= len(row):
+        return False
+    return all([row[end] not in value for end in value])
+
+
+def ties_dealt(row, ends):
+    """All ways to deal the partners of these ends to them: pairs of a sign and ties."""
+    found = []
+    for order in all_wirings(len(ends)):
+        told = list(row)
+        for end, place in zip(ends, order):
+            partner = row[ends[place]]
+            told[end] = partner
+            told[partner] = end
+        found.append((sign_of(order), tuple(told)))
+    return found
+
+
+def ties_taken_out(total, size):
+    """The writing of the sum of ties at this size, and steps that stand for what it lacks.
+
+    Of the crossing at a rise its own ties are the earliest. So, the earliest
+    ties first, none come back once they are taken out.
+    """
+    weights = {row: weight[0] for weight, row in total.terms}
+    steps = []
+    for row in all_ties(total.ends):
+        weight = weights.get(row, 0)
+        if weight != 0 and not are_kept_at(row, size):
+            ends = rise_of(row)[:size + 1]
+            steps.append((weight, row, ends))
+            for sign, other in ties_dealt(row, ends):
+                weights[other] = weights.get(other, 0) - sign * weight
+    return TieSum(total.ends, [((weights[row],), row) for row in weights]), tuple(steps)

@@ -4,6 +4,7 @@ from fromsize.checks import is_integer, is_list, is_setting_of_size
 from fromsize.tie_sums import TieSum
 from fromsize.tie_written import NothingTied, SomethingTied, can_cross, need_plain_ties, ties_dealt
 from fromsize.ties import is_ties
+from fromsize.wirings import sign_of, signed_wirings
 
 MOST_TIE_STEPS = 945
 
@@ -41,9 +42,28 @@ def is_tie_step(value, ends, size):
 
 
 def ties_stood_for(steps, ends):
-    """The sum of ties of so many ends that these steps stand for, added up."""
+    """The sum of ties of so many ends that these steps, all with as many ends, stand for, added up."""
     weights = {}
     for weight, row, told in steps:
-        for sign, other in ties_dealt(row, told):
-            weights[other] = weights.get(other, 0) + sign * weight
-    return TieSum(ends, [((weights[row],), row) for row in weights])
+        place, sign = ties_smoothed(tuple(row), tuple(told))
+        weights[place] = weights.get(place, 0) + sign * weight
+    orders = signed_wirings(len(steps[0][2])) if len(steps) > 0 else []
+    found = {}
+    for (row, told), weight in weights.items():
+        for sign, other in ties_dealt(row, told, orders):
+            found[other] = found.get(other, 0) + sign * weight
+    return TieSum(ends, [((found[row],), row) for row in found])
+
+
+def ties_smoothed(row, ends):
+    """The ties of the same crossing in which these ends have ascending partners, and the sign to these.
+
+    Steps with one such crossing are multiplied out at once. It is that at the partners, too.
+    """
+    partners = [row[end] for end in ends]
+    told = list(row)
+    for end, partner in zip(ends, sorted(partners)):
+        told[end] = partner
+        told[partner] = end
+    first = min(ends, tuple(sorted(partners)))
+    return (tuple(told), first), sign_of(partners)

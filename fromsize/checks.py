@@ -22,7 +22,8 @@ def is_list(value):
 
 def is_numbers(value):
     """Whether a value is a list or tuple of integers."""
-    return is_list(value) and all([is_integer(one) for one in value])
+    # Most are plain integers, and then no call is needed for each of them.
+    return is_list(value) and all([type(one) is int or is_integer(one) for one in value])
 
 
 def is_size(value):

@@ -3,7 +3,7 @@
 from fromsize.checks import is_numbers
 from fromsize.errors import BadTops
 from fromsize.sums import Sum
-from fromsize.wirings import all_wirings, need_wiring, sign_of
+from fromsize.wirings import need_wiring, signed_wirings
 
 
 def crossing(row, tops):
@@ -37,9 +37,9 @@ def need_tops(value, wires):
 def dealt(row, tops):
     """All ways to deal the bottoms of these tops to them: pairs of a sign and a wiring."""
     found = []
-    for order in all_wirings(len(tops)):
+    for sign, order in signed_wirings(len(tops)):
         bottoms = list(row)
         for top, place in zip(tops, order):
             bottoms[top] = row[tops[place]]
-        found.append((sign_of(order), tuple(bottoms)))
+        found.append((sign, tuple(bottoms)))
     return found

@@ -58,4 +58,11 @@ def both_settings(row):
 
 def kept_at(row, size):
     """Whether no fall of the wiring has more tops than the size."""
-    return max(colours_of(row)) < size
+    # For falls of one top, of two and so on: the greatest bottom with which one ends.
+    ends = []
+    for bottom in row:
+        many = len([1 for end in ends if end > bottom])
+        if many == size:
+            return False
+        ends[many:many + 1] = [bottom]
+    return True

@@ -5,7 +5,7 @@ them take what has been checked.
 """
 
 from fromsize.checks import need_size
-from fromsize.ties import all_ties, need_ends_many, need_ties
+from fromsize.ties import need_ends_many, need_ties
 
 
 def tie_colours(ties):
@@ -29,7 +29,10 @@ def kept_ties(ends, size):
     """All kept ties of so many ends, ascending."""
     need_ends_many(ends)
     need_size(size)
-    return tuple([row for row in all_ties(ends) if are_kept_at(row, size)])
+    rows = [()]
+    for many in range(2, ends + 1, 2):
+        rows = put_around(rows, many, size)
+    return tuple(rows)
 
 
 def end_colours(row):
@@ -54,4 +57,51 @@ def rise_of(row):
 
 def are_kept_at(row, size):
     """Whether no rise of the ties has more ends than the size."""
-    return max(end_colours(row)) < size
+    return rise_beyond(row, size) == ()
+
+
+def rise_beyond(row, size):
+    """A rise of an end more than the size; () if the ties are kept at this size.
+
+    Only ends that come ahead of their partners are asked for. Partners have one
+    colour, so such an end is the last one of some longest rise; and where an end
+    before it comes behind its own partner, this partner may stand for it there.
+    """
+    rises = []
+    for end, partner in enumerate(row):
+        if end < partner:
+            # Of the rises of so many ends the one whose last end has the least partner is kept.
+            many = len([1 for rise in rises if row[rise[-1]] < partner])
+            rise = (rises[many - 1] if many > 0 else ()) + (end,)
+            if many == size:
+                return rise
+            rises[many:many + 1] = [rise]
+    return ()
+
+
+def put_around(rows, ends, size):
+    """The kept ties of so many ends, ascending, out of those of two ends less.
+
+    A first end comes, tied to a new one at each place in turn; the others are numbered anew.
+    """
+    told = [(row, heights(row)) for row in rows]
+    found = []
+    for partner in range(1, ends):
+        places = [end + 1 if end + 1 < partner else end + 2 for end in range(ends - 2)]
+        for row, tall in told:
+            # A rise that begins with the first end goes on with ends that have greater partners than it.
+            if tall[partner - 1] < size:
+                moved = tuple([places[end] for end in row])
+                found.append((partner,) + moved[:partner - 1] + (0,) + moved[partner - 1:])
+    return found
+
+
+def heights(row):
+    """For each end, and for one more, how many ends a longest rise has, all partners from this end on."""
+    found = [0]
+    begun = []
+    for end in row[::-1]:
+        behind = [many for many, other in zip(begun, row[::-1]) if other > end]
+        begun.append(1 + max(behind, default=0))
+        found.append(max(found[-1], begun[-1]))
+    return found[::-1]

@@ -1,10 +1,12 @@
 """Steps: crossings at a top more than the size, each taken so many times."""
 
+from heapq import heapify, heappop, heappush
+
 from fromsize.checks import is_integer, is_list
 from fromsize.crossings import are_tops, dealt
 from fromsize.falls import fall_of, kept_at
 from fromsize.sums import Sum
-from fromsize.wirings import all_wirings, is_wiring, sign_of
+from fromsize.wirings import is_wiring, sign_of
 
 MOST_STEPS = 720
 
@@ -15,16 +17,29 @@ def taken_out(total, size):
     The crossing at a fall has no wiring as late as its own. So, the latest
     wirings first, none comes back once it is taken out.
     """
+    if size >= total.wires:
+        # No fall has more tops than there are wires.
+        return total, ()
     weights = {row: weight for weight, row in total.terms}
+    waiting = [negative(row) for row in weights if not kept_at(row, size)]
+    heapify(waiting)
     steps = []
-    for row in all_wirings(total.wires)[::-1]:
-        weight = weights.get(row, 0)
-        if weight != 0 and not kept_at(row, size):
+    while len(waiting) > 0:
+        row = negative(heappop(waiting))
+        weight = weights[row]
+        if weight != 0:
             tops = fall_of(row)[:size + 1]
             steps.append((weight, row, tops))
             for sign, other in dealt(row, tops):
+                if other not in weights and not kept_at(other, size):
+                    heappush(waiting, negative(other))
                 weights[other] = weights.get(other, 0) - sign * weight
     return Sum(total.wires, [(weights[row], row) for row in weights]), tuple(steps)
+
+
+def negative(row):
+    """The row with all signs turned: the latest wirings have the least ones."""
+    return tuple([-bottom for bottom in row])
 
 
 def is_step(value, wires, size):

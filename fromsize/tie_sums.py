@@ -2,11 +2,12 @@
 
 from fromsize.checks import is_list, is_numbers, is_setting, need_size
 from fromsize.errors import BadNumber, BadSetting, BadText, BadTieSum, Misfit, TooMany
+from fromsize.joins import all_joined
 from fromsize.sums import MOST_PRODUCTS, need_sum
 from fromsize.texts import is_number_text, number_text
-from fromsize.ties import (MOST_ENDS, is_ties, joined, need_ends_many, need_ties, ties_closed, ties_turned,
-                           wired_ties)
-from fromsize.weights import trimmed, weight_at, weights_added, weights_multiplied
+from fromsize.ties import MOST_ENDS, is_ties, need_ends_many, need_ties, ties_closed, ties_turned, wired_ties
+from fromsize.weights import (telling_size, trimmed, weight_at, weight_told, weights_added,
+                              weights_multiplied)
 
 
 class TieSum:
@@ -71,7 +72,7 @@ class TieSum:
         if not isinstance(other, TieSum):
             return NotImplemented
         need_same_ends(self, other)
-        less = [(weights_multiplied((-1,), weight), row) for weight, row in other.terms]
+        less = [([-number for number in weight], row) for weight, row in other.terms]
         return TieSum(self.ends, self.terms + tuple(less))
 
     def __mul__(self, other):
@@ -80,12 +81,10 @@ class TieSum:
         need_same_ends(self, other)
         if len(self.terms) * len(other.terms) > MOST_PRODUCTS:
             raise TooMany("products", MOST_PRODUCTS)
-        pairs = []
-        for weight, row in self.terms:
-            for more, then in other.terms:
-                ties, loops = joined(row, then)
-                pairs.append((with_loops(weights_multiplied(weight, more), loops), ties))
-        return TieSum(self.ends, ties_gathered(pairs))
+        # Numbers at one size are multiplied, and the weights are told from what comes.
+        size = telling_size(weights_of(self.terms), weights_of(other.terms))
+        numbers = all_joined(numbers_at(self.terms, size), numbers_at(other.terms, size), size)
+        return TieSum(self.ends, [(weight_told(numbers[row], size), row) for row in numbers])
 
     def times(self, weight):
         """The sum with all of its weights multiplied by one."""
@@ -139,7 +138,7 @@ def ties_gathered(pairs):
     weights = {}
     for weight, told in pairs:
         row = tuple(told)
-        weights[row] = weights_added(weights.get(row, ()), tuple(weight))
+        weights[row] = weights_added(weights[row], tuple(weight)) if row in weights else trimmed(weight)
     return tuple([(weights[row], row) for row in sorted(weights) if len(weights[row]) > 0])
 
 
@@ -153,6 +152,16 @@ def need_same_ends(one, other):
     """Refuse two sums that have not as many ends."""
     if one.ends != other.ends:
         raise Misfit("ends")
+
+
+def weights_of(pairs):
+    """The weights of these pairs."""
+    return [weight for weight, _ in pairs]
+
+
+def numbers_at(pairs, size):
+    """The pairs with each weight as the number that it is at this size."""
+    return [(weight_at(weight, size), row) for weight, row in pairs]
 
 
 def with_loops(weight, loops):

@@ -1,12 +1,14 @@
 """Crossings of ties, and writings of sums of ties by those that are kept at a size."""
 
+from heapq import heapify, heappop, heappush
+
 from fromsize.checks import is_numbers, need_size
 from fromsize.errors import BadEnds, Misfit
 from fromsize.papers import Denial, Paper
-from fromsize.rises import are_kept_at, end_colours, rise_of
+from fromsize.rises import end_colours, rise_beyond
 from fromsize.tie_sums import TieSum, need_tie_sum
-from fromsize.ties import all_ties, need_ties
-from fromsize.wirings import all_wirings, sign_of
+from fromsize.ties import need_ties
+from fromsize.wirings import signed_wirings
 
 
 class NothingTied(Paper):
@@ -30,7 +32,7 @@ def tie_crossing(ties, ends):
     row = need_ties(ties, "ties")
     if not can_cross(ends, row):
         raise BadEnds("ends")
-    return TieSum(len(row), [((sign,), told) for sign, told in ties_dealt(row, ends)])
+    return TieSum(len(row), [((sign,), told) for sign, told in ties_dealt(row, ends, signed_wirings(len(ends)))])
 
 
 def ties_written(total, size):
@@ -53,6 +55,11 @@ def need_plain_ties(total, size):
     """Refuse what is no sum of ties, what is no size, and weights that hang on the size."""
     need_tie_sum(total, "total")
     need_size(size)
+    need_plain_weights(total)
+
+
+def need_plain_weights(total):
+    """Refuse a sum of ties with a weight that hangs on the size."""
     if max([len(weight) for weight, _ in total.terms], default=0) > 1:
         raise Misfit("weights")
 
@@ -68,16 +75,17 @@ def can_cross(value, row):
     return all([row[end] not in value for end in value])
 
 
-def ties_dealt(row, ends):
-    """All ways to deal the partners of these ends to them: pairs of a sign and ties."""
+def ties_dealt(row, ends, orders):
+    """All ways to deal the partners of these ends to them in these orders: pairs of a sign and ties."""
+    partners = [row[end] for end in ends]
     found = []
-    for order in all_wirings(len(ends)):
+    for sign, order in orders:
         told = list(row)
         for end, place in zip(ends, order):
-            partner = row[ends[place]]
+            partner = partners[place]
             told[end] = partner
             told[partner] = end
-        found.append((sign_of(order), tuple(told)))
+        found.append((sign, tuple(told)))
     return found
 
 
@@ -87,13 +95,24 @@ def ties_taken_out(total, size):
     Of the crossing at a rise its own ties are the earliest. So, the earliest
     ties first, none come back once they are taken out.
     """
+    if 2 * size >= total.ends:
+        # No rise has more ends than there are ties.
+        return total, ()
+    orders = signed_wirings(size + 1)
     weights = {row: weight[0] for weight, row in total.terms}
+    rises = {row: rise_beyond(row, size) for row in weights}
+    waiting = [row for row in weights if rises[row] != ()]
+    heapify(waiting)
     steps = []
-    for row in all_ties(total.ends):
-        weight = weights.get(row, 0)
-        if weight != 0 and not are_kept_at(row, size):
-            ends = rise_of(row)[:size + 1]
-            steps.append((weight, row, ends))
-            for sign, other in ties_dealt(row, ends):
+    while len(waiting) > 0:
+        row = heappop(waiting)
+        weight = weights[row]
+        if weight != 0:
+            steps.append((weight, row, rises[row]))
+            for sign, other in ties_dealt(row, rises[row], orders):
+                if other not in rises:
+                    rises[other] = rise_beyond(other, size)
+                    if rises[other] != ():
+                        heappush(waiting, other)
                 weights[other] = weights.get(other, 0) - sign * weight
     return TieSum(total.ends, [((weights[row],), row) for row in weights]), tuple(steps)

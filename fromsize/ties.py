@@ -6,6 +6,7 @@ them take what has been checked.
 
 from fromsize.checks import is_numbers, is_within
 from fromsize.errors import BadNumber, BadTies, Misfit, TooMany
+from fromsize.joins import joined
 from fromsize.wirings import need_wiring
 
 MOST_ENDS = 10
@@ -15,8 +16,9 @@ def is_ties(value):
     """Whether a value is ties."""
     if not is_numbers(value) or not are_ends_many(len(value)):
         return False
-    ends = range(len(value))
-    return all([other in ends and other != end and value[other] == end for end, other in enumerate(value)])
+    if min(value) < 0 or max(value) >= len(value):
+        return False
+    return all([value[other] == end and other != end for end, other in enumerate(value)])
 
 
 def ties_of(row):
@@ -68,29 +70,6 @@ def need_ties(value, part):
     return tuple(value)
 
 
-def all_ties(ends):
-    """All ties of so many ends, ascending."""
-    rows = []
-    for pairs in pairings(tuple(range(ends))):
-        row = [0] * ends
-        for one, other in pairs:
-            row[one] = other
-            row[other] = one
-        rows.append(tuple(row))
-    return rows
-
-
-def pairings(free):
-    """All ways to pair these off, those first in which the first one has the least partner."""
-    if len(free) == 0:
-        return [()]
-    found = []
-    for at in range(1, len(free)):
-        rest = free[1:at] + free[at + 1:]
-        found.extend([((free[0], free[at]),) + more for more in pairings(rest)])
-    return found
-
-
 def wired_ties(wiring):
     """The ties in which each top is tied to the bottom to which the wiring leads it."""
     last = 2 * len(wiring) - 1
@@ -99,39 +78,6 @@ def wired_ties(wiring):
         row[top] = last - bottom
         row[last - bottom] = top
     return tuple(row)
-
-
-def joined(one, other):
-    """First the one, then the other: the ties, and how many loops there are.
-
-    The ends of the other are numbered on behind those of the one. So each end
-    in the middle is joined to the one as far from the last end as it from the first.
-    """
-    ends = len(one)
-    half = ends // 2
-    both = one + tuple([ends + end for end in other])
-    found = []
-    passed = []
-    for start in list(range(half)) + list(range(ends + half, 2 * ends)):
-        walk = walked(both, start)
-        passed.extend(walk)
-        found.append(walk[-1] if walk[-1] < half else walk[-1] - ends)
-    loops = 0
-    for start in range(half, ends):
-        if start not in passed and 2 * ends - 1 - start not in passed:
-            passed.extend(walked(both, start))
-            loops += 1
-    return tuple(found), loops
-
-
-def walked(both, start):
-    """The ends that a walk comes to, till one is left free, or is joined to the start."""
-    last = len(both) - 1
-    middle = range(len(both) // 4, 3 * (len(both) // 4))
-    walk = [both[start]]
-    while walk[-1] in middle and walk[-1] != last - start:
-        walk.append(both[last - walk[-1]])
-    return walk
 
 
 def ties_turned(row):

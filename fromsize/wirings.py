@@ -73,6 +73,20 @@ def all_wirings(wires):
     return rows
 
 
+def signed_wirings(wires):
+    """All wirings of so many wires, each behind its sign; of no wires the one without any."""
+    pairs = [(1, ())]
+    for last in range(wires):
+        longer = []
+        for number, row in pairs:
+            # With the last bottom put a place further ahead one more wire is crossed.
+            for place in range(last, -1, -1):
+                longer.append((number, row[:place] + (last,) + row[place:]))
+                number = -number
+        pairs = longer
+    return pairs
+
+
 def put_behind(one, other):
     """First the one, then the other."""
     return tuple([other[bottom] for bottom in one])

@@ -8,7 +8,7 @@ import unittest
 HERE = os.path.dirname(os.path.abspath(__file__))
 FOLDER = os.path.join(os.path.dirname(HERE), "fromsize")
 FILES = sorted(name for name in os.listdir(FOLDER) if name != "__pycache__")
-LIBRARY = {"math": {"gcd", "lcm", "isqrt", "comb", "perm", "factorial"}}
+LIBRARY = {"math": {"gcd", "lcm", "isqrt", "comb", "perm", "factorial"}, "heapq": {"heapify", "heappop", "heappush"}}
 BUILTINS = {"len", "range", "enumerate", "zip", "min", "max", "sum", "abs", "sorted", "reversed", "int", "str", "bool", "list",
             "tuple", "dict", "set", "isinstance", "ord", "repr", "any", "all", "divmod", "ValueError", "NotImplemented",
             "staticmethod", "type"}
@@ -62,7 +62,8 @@ class FilesTest(unittest.TestCase):
             for node in tree.body[1:]:
                 self.assertIsInstance(node, (ast.ImportFrom, ast.FunctionDef, ast.ClassDef, ast.Assign), name)
                 if isinstance(node, ast.Assign):
-                    self.assertIsInstance(node.value, ast.Constant, name)
+                    items = node.value.elts if isinstance(node.value, ast.Tuple) else [node.value]
+                    self.assertTrue(all(isinstance(item, ast.Constant) for item in items), name)
             own, taken = defined(tree)
             self.assertEqual(len(own + taken), len(set(own + taken)), name)
             self.assertFalse(set(own + taken) & set(dir(builtins)), name)

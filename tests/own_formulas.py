@@ -1,6 +1,7 @@
 """What the tests work out of words and formulas by themselves, straight from the words of the document."""
 
 from collections import Counter
+from functools import lru_cache
 
 from fromsize.formulas import Formula
 
@@ -16,7 +17,11 @@ def own_turned_word(word):
 
 
 def own_round(word):
-    word = tuple(word)
+    return round_kept(tuple(word))
+
+
+@lru_cache(maxsize=None)
+def round_kept(word):
     told = [word] + [each[k:] + each[:k] for each in (word, own_turned_word(word)) for k in range(len(word))]
     return min(told)
 

@@ -1,5 +1,6 @@
 """What the tests work out of ties by themselves, straight from the words of the document."""
 
+from functools import lru_cache
 from itertools import combinations, permutations
 
 from fromsize.tie_sums import TieSum
@@ -12,6 +13,7 @@ NO_TIES = [[0, 1], [0], [], (), [1], [1, 2, 0], [1, 0, 2], [1, 0, 2, 3], [1, 2, 
 NO_ENDS = [0, 1, 3, 11, 12, -2, 10 ** 30, True, False, None, "4", [4], (2,), 4.0]
 
 
+@lru_cache(maxsize=None)
 def matchings(ends):
     """All ties of so many ends: those of two ends less, with a new last end tied to each place, all numbered anew."""
     if ends == 0:

@@ -43,7 +43,7 @@ class ExamplesTest(unittest.TestCase):
 
     def test_examples(self):
         told = read_examples()
-        self.assertEqual(len([1 for _, _, printed in told if printed is not None]), 87)
+        self.assertEqual(len([1 for _, _, printed in told if printed is not None]), 140)
         for at, (module, asked, printed) in enumerate(told):
             if at == 0 or module != told[at - 1][0]:
                 self.take(module)

@@ -31,6 +31,19 @@ FUNCTIONS = {
     "led": {"lots": ["formula"], "copies": ["lot"], "letters_of": ["lot"], "sum_of": ["lot"],
             "formula_of": ["total", "letters", "is_table"]},
     "tied": {"tie_sum_of": ["lot"]},
+    "one": {"one_rule": ["words"], "cayley": ["words"]},
+    "rules": {"rule": ["formula", "size"]},
+    "turned_rules": {"turned_rule": ["formula", "size"], "from_size": ["formula"]},
+    "central": {"central": ["formula", "size"]},
+    "check_rules": {"shows_rule": ["formula", "size", "value"], "shows_turned_rule": ["formula", "size", "value"],
+                    "shows_central": ["formula", "size", "value"]},
+    "pure": {"signed_sum": ["letters"], "pure_many": ["many", "size"], "pure_list": ["many", "size"], "backwards": ["word"]},
+    "measures": {"measure_of": ["total", "size"], "measure_of_ties": ["total", "size"]},
+    "bases": {"in_base": ["table", "row", "other"], "in_turn": ["table", "axes"]},
+    "unchanged": {"unchanged": ["measure"]},
+    "turns": {"steady": ["measure"]},
+    "check_measures": {"shows_unchanged": ["measure", "value"], "shows_steady": ["measure", "value"]},
+    "two": {"at_two": ["word"], "trace_at_two": ["word"], "alike_at_two": ["one", "other"]},
 }
 CLASSES = {
     "papers": {"Paper": ["word", "parts"], "Denial": ["word", "parts"]},
@@ -40,9 +53,17 @@ CLASSES = {
     "tie_sums": {"TieSum": ["ends", "terms"]},
     "tie_written": {"NothingTied": ["steps"], "SomethingTied": ["setting"]},
     "formulas": {"Formula": ["is_table", "terms"]},
+    "rules": {"Made": ["lots"], "Differs": ["tables"]},
+    "turned_rules": {"MadeTied": ["lots"]},
+    "central": {"Central": ["lots"]},
+    "measures": {"Measure": ["size", "many", "terms"]},
+    "unchanged": {"Unchanged": ["total"], "Changed": ["row", "other", "units"]},
+    "turns": {"Steady": ["total"], "Turned": ["axes", "units"]},
 }
+# All classes of papers, and whether they are denials.
 PAPERS = {"Written": False, "Nothing": False, "Something": True, "Commutes": False, "Clash": True, "NothingTied": False,
-          "SomethingTied": True}
+          "SomethingTied": True, "Made": False, "Differs": True, "MadeTied": False, "Central": False, "Unchanged": False,
+          "Changed": True, "Steady": False, "Turned": True}
 # Methods of a class, and its static ones.
 METHODS = {
     ("sums", "Sum"): ({"__init__": ["wires", "terms"], "__eq__": ["other"], "__len__": [], "__str__": [],
@@ -57,6 +78,8 @@ METHODS = {
                                "__add__": ["other"], "__sub__": ["other"], "__mul__": ["other"], "times": ["number"],
                                "turned": [], "trace": [], "with_word": ["letter", "word"]},
                               {"of": ["word"], "read": ["text"]}),
+    ("measures", "Measure"): ({"__init__": ["size", "many", "terms"], "__eq__": ["other"], "__str__": [], "__add__": ["other"],
+                               "times": ["number"], "worth": ["tables"]}, {"read": ["text"]}),
 }
 
 
@@ -117,6 +140,23 @@ class InterfaceTest(unittest.TestCase):
             self.assertIs(bool(paper), truth)
             self.assertTrue(paper == held(*kept))
             self.assertFalse(paper == held(*[0] * len(parameters)))
+
+    def test_all_classes_of_papers(self):
+        """Those that are listed are all there are; equal exactly if of one class with equal parts."""
+        papers = module_of("papers")
+        listed = [(name, parameters, getattr(module_of(module), name)) for module, told in CLASSES.items()
+                  for name, parameters in told.items() if name in PAPERS]
+        kinds = [held for _, _, held in listed]
+        self.assertEqual(len(kinds), len(PAPERS))
+        self.assertEqual(set(papers.Denial.__subclasses__()), {held for held in kinds if PAPERS[held.__name__]})
+        self.assertEqual(set(papers.Paper.__subclasses__()) - {papers.Denial}, {held for held in kinds if not PAPERS[held.__name__]})
+        made = [held(*[0] * len(parameters)) for _, parameters, held in listed]
+        for one, paper in enumerate(made):
+            for other, more in enumerate(made):
+                self.assertIs(paper == more, one == other)
+                self.assertIs(paper != more, one != other)
+            self.assertFalse(paper == papers.Paper(paper.word, *paper.parts))
+            self.assertFalse(paper == papers.Denial(paper.word, *paper.parts))
 
     def test_papers_compare(self):
         papers = module_of("papers")

@@ -109,11 +109,11 @@ class AnswersTest(Case):
 class TimesTest(Case):
     def in_time(self, function, *values):
         """A few hundred calls, and no more than two seconds."""
-        start = time.perf_counter()
+        start = time.process_time()
         for _ in range(100):
             for more in values:
                 function(more)
-        self.assertLess(time.perf_counter() - start, 2)
+        self.assertLess(time.process_time() - start, 2)
 
     def test_writings(self):
         ties = TieSum.wired(five_wires())
@@ -138,6 +138,6 @@ class TimesTest(Case):
         """As many steps as there may be, of few crossings."""
         steps = judged_ties(tie_crossing((1, 0, 3, 2, 5, 4, 7, 6, 9, 8), (0, 2, 4, 6, 8)).times([5]), 4).steps
         total = tie_crossing((1, 0, 3, 2, 5, 4, 7, 6, 9, 8), (0, 2, 4, 6, 8)).times([5 * (945 // len(steps))])
-        start = time.perf_counter()
+        start = time.process_time()
         self.assertTrue(shows_judged_ties(total, 4, NothingTied(steps * (945 // len(steps)))))
-        self.assertLess(time.perf_counter() - start, 1)
+        self.assertLess(time.process_time() - start, 1)

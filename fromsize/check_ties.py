@@ -1,10 +1,11 @@
 """Whether papers about sums of ties are right."""
 
 from fromsize.checks import is_integer, is_list, is_setting_of_size
-from fromsize.tie_sums import TieSum
-from fromsize.tie_written import NothingTied, SomethingTied, can_cross, need_plain_ties, ties_dealt
+from fromsize.tie_sums import plain_tie_sum
+from fromsize.tie_written import (NothingTied, SomethingTied, can_cross, need_plain_ties, signed_moves,
+                                  ties_dealt)
 from fromsize.ties import is_ties
-from fromsize.wirings import sign_of, signed_wirings
+from fromsize.wirings import sign_of
 
 MOST_TIE_STEPS = 945
 
@@ -47,12 +48,12 @@ def ties_stood_for(steps, ends):
     for weight, row, told in steps:
         place, sign = ties_smoothed(tuple(row), tuple(told))
         weights[place] = weights.get(place, 0) + sign * weight
-    orders = signed_wirings(len(steps[0][2])) if len(steps) > 0 else []
+    orders = signed_moves(len(steps[0][2])) if len(steps) > 0 else []
     found = {}
     for (row, told), weight in weights.items():
         for sign, other in ties_dealt(row, told, orders):
             found[other] = found.get(other, 0) + sign * weight
-    return TieSum(ends, [((found[row],), row) for row in found])
+    return plain_tie_sum(ends, found)
 
 
 def ties_smoothed(row, ends):

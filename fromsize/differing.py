@@ -20,6 +20,7 @@ def differing_tables(formula, letters, units, size):
         tables = {letter: units_added(letter, chosen, size) for letter in letters}
         if is_something(value_of(part, tables, size)):
             return tuple([(letter, tables[letter]) for letter in letters])
+    # Not reached: not all of these values are nothing.
     return None
 
 

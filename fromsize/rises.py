@@ -67,16 +67,23 @@ def rise_beyond(row, size):
     colour, so such an end is the last one of some longest rise; and where an end
     before it comes behind its own partner, this partner may stand for it there.
     """
+    # Of the rises of so many ends the one whose last end has the least partner, and this partner.
     rises = []
+    lasts = []
+    found = ()
     for end, partner in enumerate(row):
         if end < partner:
-            # Of the rises of so many ends the one whose last end has the least partner is kept.
-            many = len([1 for rise in rises if row[rise[-1]] < partner])
-            rise = (rises[many - 1] if many > 0 else ()) + (end,)
-            if many == size:
-                return rise
+            many = 0
+            for last in lasts:
+                if last < partner:
+                    many += 1
+            rise = rises[many - 1] + (end,) if many > 0 else (end,)
             rises[many:many + 1] = [rise]
-    return ()
+            lasts[many:many + 1] = [partner]
+            # With a great last partner a crossing has later ties, and fewer are taken out one by one.
+            if many >= size and (found == () or row[found[-1]] < partner):
+                found = rise[:size] + (end,)
+    return found
 
 
 def put_around(rows, ends, size):
@@ -84,24 +91,26 @@ def put_around(rows, ends, size):
 
     A first end comes, tied to a new one at each place in turn; the others are numbered anew.
     """
-    told = [(row, heights(row)) for row in rows]
+    told = [(row, heights(row) if ends > 2 * size else (0,) * ends) for row in rows]
     found = []
     for partner in range(1, ends):
-        places = [end + 1 if end + 1 < partner else end + 2 for end in range(ends - 2)]
+        # Behind the new numbers of the others stands that of the first end, at the place -1.
+        places = [end + 1 if end + 1 < partner else end + 2 for end in range(ends - 2)] + [0]
         for row, tall in told:
             # A rise that begins with the first end goes on with ends that have greater partners than it.
             if tall[partner - 1] < size:
-                moved = tuple([places[end] for end in row])
-                found.append((partner,) + moved[:partner - 1] + (0,) + moved[partner - 1:])
+                others = row[:partner - 1] + (-1,) + row[partner - 1:]
+                found.append((partner,) + tuple([places[end] for end in others]))
     return found
 
 
 def heights(row):
     """For each end, and for one more, how many ends a longest rise has, all partners from this end on."""
+    ends = row[::-1]
     found = [0]
     begun = []
-    for end in row[::-1]:
-        behind = [many for many, other in zip(begun, row[::-1]) if other > end]
+    for end in ends:
+        behind = [many for many, other in zip(begun, ends) if other > end]
         begun.append(1 + max(behind, default=0))
         found.append(max(found[-1], begun[-1]))
     return found[::-1]

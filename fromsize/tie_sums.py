@@ -142,6 +142,13 @@ def ties_gathered(pairs):
     return tuple([(weights[row], row) for row in sorted(weights) if len(weights[row]) > 0])
 
 
+def plain_tie_sum(ends, numbers):
+    """The sum of a dict from ties of so many ends, known to be right, to integers, weights that hang on no size."""
+    found = TieSum(ends, ())
+    found.terms = tuple([((numbers[row],), row) for row in sorted(numbers) if numbers[row] != 0])
+    return found
+
+
 def need_tie_sum(value, part):
     """Refuse what is no sum of ties."""
     if not isinstance(value, TieSum):

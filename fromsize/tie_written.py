@@ -6,7 +6,7 @@ from fromsize.checks import is_numbers, need_size
 from fromsize.errors import BadEnds, Misfit
 from fromsize.papers import Denial, Paper
 from fromsize.rises import end_colours, rise_beyond
-from fromsize.tie_sums import TieSum, need_tie_sum
+from fromsize.tie_sums import need_tie_sum, plain_tie_sum
 from fromsize.ties import need_ties
 from fromsize.wirings import signed_wirings
 
@@ -32,7 +32,7 @@ def tie_crossing(ties, ends):
     row = need_ties(ties, "ties")
     if not can_cross(ends, row):
         raise BadEnds("ends")
-    return TieSum(len(row), [((sign,), told) for sign, told in ties_dealt(row, ends, signed_wirings(len(ends)))])
+    return plain_tie_sum(len(row), {told: sign for sign, told in ties_dealt(row, ends, signed_moves(len(ends)))})
 
 
 def ties_written(total, size):
@@ -75,14 +75,21 @@ def can_cross(value, row):
     return all([row[end] not in value for end in value])
 
 
+def signed_moves(many):
+    """For each order of so many ends its sign, and which ends get which partners, those that get others alone."""
+    return [(sign, [(place, goal) for place, goal in enumerate(order) if place != goal])
+            for sign, order in signed_wirings(many)]
+
+
 def ties_dealt(row, ends, orders):
-    """All ways to deal the partners of these ends to them in these orders: pairs of a sign and ties."""
+    """All ways to deal the partners of these ends to them, in these orders told by moves: pairs of a sign and ties."""
     partners = [row[end] for end in ends]
     found = []
-    for sign, order in orders:
+    for sign, moves in orders:
         told = list(row)
-        for end, place in zip(ends, order):
-            partner = partners[place]
+        for place, goal in moves:
+            end = ends[place]
+            partner = partners[goal]
             told[end] = partner
             told[partner] = end
         found.append((sign, tuple(told)))
@@ -98,11 +105,11 @@ def ties_taken_out(total, size):
     if 2 * size >= total.ends:
         # No rise has more ends than there are ties.
         return total, ()
-    orders = signed_wirings(size + 1)
     weights = {row: weight[0] for weight, row in total.terms}
     rises = {row: rise_beyond(row, size) for row in weights}
     waiting = [row for row in weights if rises[row] != ()]
     heapify(waiting)
+    orders = signed_moves(size + 1) if len(waiting) > 0 else []
     steps = []
     while len(waiting) > 0:
         row = heappop(waiting)
@@ -115,4 +122,4 @@ def ties_taken_out(total, size):
                     if rises[other] != ():
                         heappush(waiting, other)
                 weights[other] = weights.get(other, 0) - sign * weight
-    return TieSum(total.ends, [((weights[row],), row) for row in weights]), tuple(steps)
+    return plain_tie_sum(total.ends, weights), tuple(steps)

@@ -36,6 +36,7 @@ def steady(measure):
         units = first_unlike(due, worths_moved(measure, turned_parts(measure.size, axes)))
         if units is not None:
             return Turned(axes, units)
+    # Not reached: what no turn and no mirror changes comes of a sum.
     return None
 
 

@@ -34,12 +34,17 @@ def unchanged(measure):
     if measure_of(total, measure.size) == measure:
         return Unchanged(total)
     weights = weights_by_places(measure)
-    axes = range(measure.size)
-    for row, other in [(row, other) for row in axes for other in axes if row != other]:
+    for row, other in all_bases(measure.size):
         units = first_unlike(weights, worths_moved(measure, base_parts(measure.size, row, other)))
         if units is not None:
             return Changed(row, other, units)
+    # Not reached: what no base changes comes of a sum.
     return None
+
+
+def all_bases(size):
+    """All bases of tables of this size."""
+    return [(row, other) for row in range(size) for other in range(size) if row != other]
 
 
 def sum_told(measure):

@@ -12,7 +12,7 @@ from fromsize.tied import tie_sum_of
 from fromsize.turned_rules import MadeTied, from_size, turned_rule
 from tests.own import GREAT, ODD_VALUES, Case
 from tests.own_formulas import drawn_formula
-from tests.own_rules import changed, drawn_rule, is_nothing_at, is_own_something, own_lots
+from tests.own_rules import changed, drawn_rule, is_nothing_at, is_own_something, own_copies, own_lots
 from tests.own_turned import drawn_tied_rule, is_own_made_tied
 from tests.test_led import NO_FORMULAS
 from tests.test_rules import NO_SIZES
@@ -125,6 +125,25 @@ class TurnedRuleTest(TurnedCase):
         for text in ("table : 1 a' / -1 a' a", "number : -1 / 1 ( a a' )", "number : -1 ( a ) / 1 ( a a' )", "table : 1 / -1 a'",
                      "number : -2 ( a ) / 1 ( a ) ( a ) / 1 ( a a' )"):
             self.asked(Formula.read(text), 1, False)
+
+
+class FactsTest(TurnedCase):
+    def test_what_comes_of_rules(self):
+        """Turned over, added, multiplied either way about, traced, with words put in: a rule stays one of its size."""
+        draw = random.Random(10)
+        for size in (1, 2):
+            for _ in range(4):
+                table, number = drawn_rule(draw, size, True, 1, "ab"), drawn_rule(draw, size, False, 1, "ab")
+                tied = drawn_tied_rule(draw, size, True, 1, "ab")
+                other = drawn_formula(draw, True, 2, 3, "c")
+                told = [table.turned(), number.turned(), tied.turned(), table + tied, tied - table.turned(), tied * other, other * tied,
+                        tied.with_word("a", ["b'"]), tied.with_word("b", ["c", "a'"]), number * tied, tied * tied.turned()]
+                told += [formula.trace() for formula in (table, tied) if all(word for _, _, word in formula.terms)]
+                for formula in told:
+                    self.assertTrue(is_nothing_at(draw, formula, size, 2))
+                    if fits(formula) and all(len(terms) * own_copies(row) <= 2000 for row, terms in own_lots(formula)):
+                        for less in range(1, size + 1):
+                            self.asked(formula, less, True)
 
 
 class FromSizeTest(TurnedCase):

@@ -171,6 +171,17 @@ class ShowsMadeTest(CheckCase):
         self.shown(False, beside, 1, Made([[(1, [], [["*", "a"], ["b"]])]]))
         self.shown(True, one_rule([["a"], ["b"]]) * Formula.of(["c"]), 1, Made([[(1, [["c", "*"]], [["b"], ["a"]])]]))
 
+    def test_makings_that_cancel_one_another(self):
+        """Each making must be one, even where two with contrary weights bring nothing."""
+        square = cayley([["a"], ["a"]])
+        one = (2, [], [["*"], ["a"], ["a"]])
+        self.shown(True, square, 2, Made([[one, (5, [], one[2]), (-5, [], one[2])]]))
+        for traces, words in (([[]], one[2]), ([], [["*", "a"], ["a"], []]), ([["b"]], one[2]), ([], [["b"], ["b"], ["b"]]), ([["a"]], one[2]),
+                              ([], [["*"], ["a"]]), ([["a"]], [["*"], ["a"]]), ([], [["*"], ["a"], ["a'"]]), ([["*"]], [["a"], ["a"]]),
+                              ([["a", "a"]], [["*"], [], []]), ([], [["*", "a", "a"], [], []])):
+            self.shown(False, square, 2, Made([[one, (5, traces, words), (-5, traces, words)]]))
+        self.shown(False, square, 2, Made([[one, (0, [], one[2])]]))
+
     def test_many_makings(self):
         square = cayley([["a"], ["a"]])
         one = (2, [], [["*"], ["a"], ["a"]])

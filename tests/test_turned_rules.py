@@ -178,6 +178,11 @@ class FromSizeTest(TurnedCase):
         self.assertEqual(self.against_papers(Formula(False, [(5, [], None)])), 1)
         self.assertEqual(self.against_papers(Formula(True, [(5, [], [])])), 1)
         self.assertEqual(self.against_papers(Formula.of(["a'"])), 1)
+        # A number beside a rule of size 1 with a letter turned over: of no size it is a rule.
+        even = Formula.read("number : -1 ( a a ) / 1 ( a a' )")
+        self.assertEqual(self.against_papers(even), 2)
+        self.assertEqual(self.against_papers(even + Formula(False, [(3, [], None)])), 1)
+        self.assertEqual(self.against_papers(even * Formula.of([]) + Formula(True, [(3, [], [])])), 1)
         for many in range(2, 7):
             self.assertEqual(from_size(one_rule([[letter] for letter in "abcdef"[:many]])), many)
             self.assertEqual(from_size(one_rule([[letter] for letter in "abcdef"[:many]]) + Formula(False, [(1, [], None)])), 1)
